@@ -1,0 +1,13 @@
+"""The bytes that mean something in a text."""
+
+TAB = 9
+LINE_FEED = 10
+SPACE = 32
+LEFT_PARENTHESIS = 40
+RIGHT_PARENTHESIS = 41
+POINT = 46
+DIGIT_0 = 48
+DIGIT_9 = 57
+BACKSLASH = 92
+LETTER_A = 97
+LETTER_Z = 122
