@@ -147,7 +147,7 @@ def take_part(reader, tokens, at):
     return at + 1
 
 
-# What a text says: its term, and the free names that are not defined, as keys.
+# What a text says: its term, and the free names that are not defined, as keys, in the order in which they come first.
 class Reading:
     def __init__(self, term, unknown):
         self.term = term

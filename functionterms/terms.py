@@ -1,8 +1,9 @@
 """The calls, and their answers."""
 
+from functionterms.comparing import are_same, number_of
 from functionterms.reading import NotATerm, is_name, read_text
 from functionterms.stepping import MOST_SIZE, work_out
-from functionterms.writing import write_term
+from functionterms.writing import write_names, write_term
 
 LONGEST_TEXT = 2048
 MOST_DEFINED_SIZE = 1024
@@ -15,15 +16,27 @@ NOT_NORMAL = -4
 TOO_LARGE = -5
 TOO_LONG = -6
 TOO_MANY = -7
+NO_NUMBER = -8
 
 BEGIN = 0
 DEFINE = 1
 NORMAL = 2
+SAME = 3
+NUMBER = 4
+NAMES = 5
 
 
-# The calls 3 to 5 are not there yet; to answer them as another call would be worse than to fail.
 class UnknownCall(ValueError):
     pass
+
+
+# None if the work led to a normal term.
+def refusal_of(work):
+    if work.size > MOST_SIZE:
+        return TOO_LARGE
+    if not work.finished:
+        return NOT_NORMAL
+    return None
 
 
 # The terms of the defined names hold no defined names themselves, so they stay what they were when a name is defined
@@ -61,14 +74,51 @@ class Line:
         except NotATerm:
             return [NO_TERM]
         work = work_out(reading.term, steps)
-        if work.size > MOST_SIZE:
-            return [TOO_LARGE, work.steps]
-        if not work.finished:
-            return [NOT_NORMAL, work.steps]
+        refusal = refusal_of(work)
+        if refusal is not None:
+            return [refusal, work.steps]
         written = write_term(work.place)
         if len(written) > most:
             return [TOO_LONG, work.steps]
         return [len(written), work.steps] + written
+
+    def same(self, a, b):
+        if len(a) > LONGEST_TEXT or len(b) > LONGEST_TEXT:
+            return [WRONG_FORM]
+        try:
+            first = read_text(a, self.defined).term
+            second = read_text(b, self.defined).term
+        except NotATerm:
+            return [NO_TERM]
+        if first.size > MOST_SIZE or second.size > MOST_SIZE:
+            return [TOO_LARGE]
+        return [1 if are_same(first, second) else 0]
+
+    def number(self, steps, text):
+        if len(text) > LONGEST_TEXT:
+            return [WRONG_FORM]
+        try:
+            reading = read_text(text, self.defined)
+        except NotATerm:
+            return [NO_TERM]
+        work = work_out(reading.term, steps)
+        refusal = refusal_of(work)
+        if refusal is not None:
+            return [refusal]
+        found = number_of(work.place)
+        return [NO_NUMBER if found is None else found]
+
+    def names(self, most, text):
+        if len(text) > LONGEST_TEXT:
+            return [WRONG_FORM]
+        try:
+            reading = read_text(text, self.defined)
+        except NotATerm:
+            return [NO_TERM]
+        written = write_names(list(reading.unknown))
+        if len(written) > most:
+            return [TOO_LONG]
+        return [len(written)] + written
 
 
 # The numbers that are handed in, and how far they are read.
@@ -103,6 +153,15 @@ def answer_next(line, tape):
         steps = tape.take_number()
         most = tape.take_number()
         return line.normal(steps, most, tape.take_row())
+    if call == SAME:
+        a = tape.take_row()
+        return line.same(a, tape.take_row())
+    if call == NUMBER:
+        steps = tape.take_number()
+        return line.number(steps, tape.take_row())
+    if call == NAMES:
+        most = tape.take_number()
+        return line.names(most, tape.take_row())
     raise UnknownCall()
 
 

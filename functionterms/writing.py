@@ -1,4 +1,4 @@
-"""From normal terms to text."""
+"""From normal terms, and from names, to text."""
 
 from functionterms.nodes import APPLICATION, FREE, FUNCTION
 from functionterms.signs import BACKSLASH, LEFT_PARENTHESIS, LETTER_A, POINT, RIGHT_PARENTHESIS, SPACE
@@ -95,4 +95,13 @@ def write_term(term):
             text.extend(piece)
         else:
             todo.extend(list(reversed(pieces_of(piece, names))))
+    return text
+
+
+def write_names(names):
+    text = []
+    for name in names:
+        if len(text) > 0:
+            text.append(SPACE)
+        text.extend(list(name))
     return text

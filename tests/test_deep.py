@@ -2,7 +2,7 @@
 
 import unittest
 
-from helper import define, last, normal, sized, success
+from helper import define, last, listed, names, normal, number, numeral, same, sized, success
 
 
 class Deep(unittest.TestCase):
@@ -74,6 +74,86 @@ class Deep(unittest.TestCase):
         row = " ".join(["x"] * 1024)
         self.assertEqual(last(normal(row)), success(0, row))
         self.assertEqual(last(define("b", sized(1024)), normal("b a")), success(1, " ".join(["a"] * 512)))
+
+
+class DeepSame(unittest.TestCase):
+    def are(self, answer, a, b, *before):
+        self.assertEqual(last(*before, same(a, b)), [answer])
+        self.assertEqual(last(*before, same(b, a)), [answer])
+
+    def test_parentheses(self):
+        self.are(1, "(" * 1023 + "a" + ")" * 1023, "a")
+        self.are(0, "(" * 1023 + "a" + ")" * 1023, "b")
+        self.are(-2, "(" * 1023 + "a" + ")" * 1023, "(" * 1023 + "a" + ")" * 1022)
+
+    def test_functions(self):
+        self.are(1, "\\x." * 682 + "x", "\\y." * 682 + "y")
+        self.are(0, "\\x." * 682 + "x", "\\y." + "\\x." * 681 + "y")
+        self.are(0, "\\x." * 682 + "x", "\\x." * 681 + "x")
+
+    def test_arguments(self):
+        self.are(1, "a(" * 682 + "a" + ")" * 682, "(a)(" + "a(" * 680 + "a a" + ")" * 681)
+        self.are(0, "a(" * 682 + "a" + ")" * 682, "a(" * 682 + "b" + ")" * 682)
+
+    def test_a_long_row(self):
+        self.are(1, "a " * 1024, "a " * 1024)
+        self.are(0, "a " * 1024, "b " + "a " * 1023)
+        self.are(0, "a " * 1024, "a " * 1023 + "b")
+
+    def test_deeper_by_what_is_defined(self):
+        deep = [define("d", "\\x." * 680 + "x"), define("e", "\\y." * 600 + "\\x." * 80 + "x")]
+        head = "\\z." * 680
+        self.are(1, head + "d", head + "e", *deep)
+        self.are(1, head + "d d d d", head + "d e d e", *deep)
+        self.are(0, head + "d d d d", head + "d d d z", *deep)
+
+
+class DeepNumber(unittest.TestCase):
+    def test_a_text_as_it_is(self):
+        self.assertEqual(last(number(numeral(680))), [680])
+        self.assertEqual(last(number("\\f.\\x." + "f(" * 680 + "x" + ")" * 680)), [680])
+        self.assertEqual(last(number("\\f.\\x." + "f(" * 680 + "f" + ")" * 680)), [-8])
+
+    def test_parentheses(self):
+        text = "\\f.\\x.f x"
+        self.assertEqual(last(number("(" * 1019 + text + ")" * 1019)), [1])
+        self.assertEqual(last(number("(" * 1019 + text + ")" * 1020)), [-2])
+
+    def test_functions(self):
+        self.assertEqual(last(number("\\x." * 682 + "x")), [-8])
+        self.assertEqual(last(number("(\\x.x)" * 339 + "\\f.\\x.f x")), [1])
+
+    def test_deeper_by_steps(self):
+        ten = define("ten", numeral(10))
+        self.assertEqual(last(ten, number("\\f.\\x.ten (ten (ten f)) x")), [1000])
+        self.assertEqual(last(ten, number("\\f.ten (ten (ten f))")), [1000])
+
+
+class DeepNames(unittest.TestCase):
+    def test_parentheses(self):
+        self.assertEqual(last(names("(" * 1023 + "a" + ")" * 1023)), listed("a"))
+        self.assertEqual(last(names("(" * 1023 + "a" + ")" * 1024)), [-2])
+
+    def test_functions(self):
+        self.assertEqual(last(names("\\x." * 682 + "x")), [0])
+        self.assertEqual(last(names("\\x." * 682 + "y")), listed("y"))
+        # Each y behind a parenthesis belongs to the function around, but for the last one.
+        self.assertEqual(last(names("(\\y." * 290 + "z y" + ") y" * 290)), listed("z y"))
+        self.assertEqual(last(names("(\\y." * 290 + "z y" + ") y" * 289 + ")")), listed("z"))
+
+    def test_arguments(self):
+        self.assertEqual(last(names("a(" * 682 + "b" + ")" * 682)), listed("a b"))
+
+    def test_a_long_row(self):
+        letters = "abcdefghijklmnopqrstuvwxyz"
+        row = " ".join([one + other for one in letters for other in letters])
+        self.assertEqual(len(row), 2027)
+        self.assertEqual(last(names(row)), listed(row))
+        self.assertEqual(last(names("a " * 1024)), listed("a"))
+
+    def test_deep_definitions(self):
+        deep = define("d", "\\x." * 680 + "x")
+        self.assertEqual(last(deep, names("\\z." * 680 + "d z a")), listed("a"))
 
 
 if __name__ == "__main__":

@@ -1,4 +1,4 @@
-"""Many small terms, worked out by the program and by a plain model of the document.
+"""Many small terms, asked of the program and of a plain model of the document.
 
 The model keeps the functions' names and renames them at every step; it looks for its place from the whole term's
 beginning, and counts every size anew. So it shares no way of working with the program.
@@ -7,7 +7,7 @@ beginning, and counts every size anew. So it shares no way of working with the p
 import re
 import unittest
 
-from helper import MOST_SIZE, define, normal, success, told
+from helper import MOST_SIZE, define, listed, names, normal, number, same, success, told
 
 STEPS = 60
 
@@ -113,11 +113,18 @@ def row_of(term, order, names, level):
     return " ".join(texts)
 
 
-def model_of_normal(text, defined, most):
-    fresh = Fresh()
+def meant(text, defined, fresh):
+    """The text's term, with those of the defined names put in."""
     term = read(text)
     for name, other in defined:
         term = replaced(term, name, read(other), fresh)
+    return term
+
+
+def worked_out(text, defined):
+    """The refusal that is due or None, how many steps were made, and the term they led to."""
+    fresh = Fresh()
+    term = meant(text, defined, fresh)
     steps = 0
     following = stepped(term, fresh)
     while following is not None and size(term) <= MOST_SIZE and steps < STEPS:
@@ -125,11 +132,44 @@ def model_of_normal(text, defined, most):
         steps += 1
         following = stepped(term, fresh)
     if size(term) > MOST_SIZE:
-        return [-5, steps]
-    if following is not None:
-        return [-4, steps]
+        return -5, steps, term
+    return None if following is None else -4, steps, term
+
+
+def model_of_normal(text, defined, most):
+    refusal, steps, term = worked_out(text, defined)
+    if refusal is not None:
+        return [refusal, steps]
     answer = written(term)
     return [-6, steps] if len(answer) > most else success(steps, answer)
+
+
+def model_of_same(a, b, defined):
+    """Two terms are the same but for their functions' names if they are written alike."""
+    return [1 if written(meant(a, defined, Fresh())) == written(meant(b, defined, Fresh())) else 0]
+
+
+def model_of_number(text, defined):
+    refusal, steps, term = worked_out(text, defined)
+    if refusal is not None:
+        return [refusal]
+    found = re.fullmatch(r"\\a\.\\b\.((?:a \()*)(a )?b(\)*)", written(term))
+    return [-8] if found is None else [found[1].count("a") + (found[2] or "").count("a")]
+
+
+def model_of_names(text, defined, most):
+    found = []
+    todo = [(read(text), [name for name, other in defined])]
+    while todo:
+        term, left_out = todo.pop(0)
+        if term[0] == "function":
+            todo.insert(0, (term[2], left_out + [term[1]]))
+        elif term[0] == "application":
+            todo[0:0] = [(term[1], left_out), (term[2], left_out)]
+        elif term[1] not in left_out + found:
+            found.append(term[1])
+    answer = " ".join(found)
+    return [-6] if len(answer) > most else listed(answer)
 
 
 class Choices:
@@ -156,6 +196,28 @@ def term_text(choices, budget):
     return first + " " + (second if choices.below(4) == 0 else "(" + second + ")")
 
 
+def changed(choices, text):
+    """The text with one of its names changed, a function's all through or any at one place; it stays a term."""
+    found = list(re.finditer(r"[a-z]+", text))
+    chosen = found[choices.below(len(found))]
+    other = ("x", "y", "z", "q", "i", "k")[choices.below(6)]
+    if choices.below(2) == 0:
+        return text[:chosen.start()] + other + text[chosen.end():]
+    return re.sub(r"\b" + chosen[0] + r"\b", other, text)
+
+
+def number_text(choices, budget):
+    """A text that leads to a number more often than others do."""
+    if choices.below(3) == 0:
+        return term_text(choices, budget)
+    parts = ("two", "(k i)", "i", "(two two)", "(\\f.\\x.f x)", "(\\f.\\x.f (f (f x)))", "k", "w")
+    row = " ".join([parts[choices.below(len(parts))] for part in range(1 + choices.below(3))])
+    if choices.below(2) == 0:
+        return row
+    ends = ("x", "x", "(f x)", "(f (f x))", "(f f)", "(x x)", "y", "((\\x.f x) x)")
+    return "\\f.\\x." + row + " f " + ends[choices.below(len(ends))]
+
+
 DEFINED = (
     ("i", "\\x.x"), ("k", "\\x.\\y.x"), ("s", "\\x.\\y.\\z.x z (y z)"), ("w", "\\x.x x"), ("two", "\\f.\\x.f (f x)"))
 
@@ -173,6 +235,46 @@ class AgainstTheModel(unittest.TestCase):
         choices = Choices(seed)
         texts = [term_text(choices, 1 + choices.below(budget)) for number in range(18)]
         return self.compare(texts, [choices.below(100) for text in texts])
+
+    def ask(self, calls, expected):
+        """Sixty calls a line at the most, those that define among them."""
+        before = [define(name, text) for name, text in DEFINED]
+        room = 60 - len(before)
+        for at in range(0, len(calls), room):
+            answered = told(*before, *calls[at:at + room])[len(before):]
+            self.assertEqual(answered, expected[at:at + room])
+
+    def test_same(self):
+        choices = Choices(7)
+        calls, expected = [], []
+        for number_of_pair in range(1500):
+            a = term_text(choices, 1 + choices.below(10))
+            b = changed(choices, a)
+            calls.append(same(a, b))
+            expected.append(model_of_same(a, b, DEFINED))
+        self.ask(calls, expected)
+        self.assertTrue(200 < expected.count([1]) < 1300)
+
+    def test_number(self):
+        choices = Choices(8)
+        calls, expected = [], []
+        for number_of_text in range(2000):
+            text = number_text(choices, 1 + choices.below(12))
+            calls.append(number(text, STEPS))
+            expected.append(model_of_number(text, DEFINED))
+        self.ask(calls, expected)
+        self.assertTrue({-8, -4, 0, 1, 2, 3, 4} <= {answer[0] for answer in expected})
+
+    def test_names(self):
+        choices = Choices(9)
+        calls, expected = [], []
+        for number_of_text in range(1500):
+            text = term_text(choices, 1 + choices.below(20))
+            most = choices.below(16)
+            calls.append(names(text, most))
+            expected.append(model_of_names(text, DEFINED, most))
+        self.ask(calls, expected)
+        self.assertTrue({-6, 0, 1, 3, 5, 7} <= {answer[0] for answer in expected})
 
     def test_small_terms(self):
         for seed in range(100):

@@ -2,20 +2,7 @@
 
 import unittest
 
-from helper import PLENTY, define, last, normal, sized, success
-
-OMEGA = "(\\x.x x) (\\x.x x)"
-GROWING = "(\\x.x x x) (\\x.x x x)"
-TWO_AND_I = [define("two", "\\f.\\x.f (f x)"), define("i", "\\x.x")]
-
-
-def doubled(times, argument):
-    """A term that makes 3 * 2 ** times - 2 steps on its way to the argument."""
-    return "two (" * times + "i" + ")" * times + " (" + argument + ")"
-
-
-def hundred_thousand_steps(argument):
-    return doubled(15, doubled(9, doubled(5, doubled(4, doubled(3, "i (i (" + argument + "))")))))
+from helper import GROWING, OMEGA, PLENTY, TWO_AND_I, define, hundred_thousand_steps, last, normal, sized, success
 
 
 class Answers(unittest.TestCase):
